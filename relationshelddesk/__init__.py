@@ -1,0 +1,1 @@
+"""Relations between the runs of a program: read, held, made small and tried on mutants."""
