@@ -1,17 +1,8 @@
 """How a relation does over all inputs: held, its ways to stand, and under other conditions."""
 
+from relationshelddesk.following import strongest_places, way_follows
 from relationshelddesk.kinds import WAY_WORDS
 from relationshelddesk.relations import BROKEN, KEPT, OFF, is_so, sides_at, stands, state_at
-
-FOLLOWING = {
-    "equal": ("equal", "bag", "numbers", "most", "least", "begins", "long"),
-    "bag": ("bag", "numbers", "long"),
-    "numbers": ("numbers",),
-    "most": ("most", "long"),
-    "least": ("least", "long"),
-    "begins": ("begins",),
-    "long": ("long",),
-}
 
 LOOKED_AT_CONDITIONS = (
     ("any", 0), ("some", 0), ("rising", 0), ("plus", 0), ("unlike", 0), ("atleast", 2), ("atleast", 3),
@@ -49,12 +40,7 @@ def holding_ways(program, relation, rows):
 
 
 def strongest_ways(ways):
-    found = []
-    for way in ways:
-        stronger = [other for other in ways if other != way and way in FOLLOWING[other]]
-        if not stronger:
-            found.append(way)
-    return found
+    return [ways[place] for place in strongest_places(ways, way_follows)]
 
 
 # None where there's no such condition.

@@ -1,7 +1,6 @@
-"""Mutants of a program, and which of them the relations see."""
+"""Mutants of a program."""
 
-from relationshelddesk.relations import BROKEN, is_so, sides_from, stands, state_at
-from relationshelddesk.steps import run
+from relationshelddesk.kinds import STEP_LIMITS
 
 GONE = 0
 
@@ -67,52 +66,13 @@ def mutants_of(program):
     return found
 
 
-def outcomes_of(program, rows):
-    return [run(program, row) for row in rows]
+def is_told(step):
+    if step[0] not in STEP_LIMITS:
+        return True
+    limits = STEP_LIMITS[step[0]]
+    return limits[0] <= step[1] <= limits[1]
 
 
-def is_good(program, relation, rows):
-    return all([state_at(program, relation, row) != BROKEN for row in rows])
-
-
-# What the input's turning makes of each row; None where it's beyond or the condition isn't so:
-# the relation is off there, whatever the program.
-def turned_rows(relation, rows):
-    return [run(relation.input_turning, row) if is_so(relation.condition, row) else None for row in rows]
-
-
-def sees(relation, turned, program, outcomes):
-    for turned_row, outcome in zip(turned, outcomes):
-        sides = sides_from(program, relation, outcome, turned_row)
-        if sides is not None and not stands(relation.way, sides):
-            return True
-    return False
-
-
-# A good relation is a pair of it and the rows as it turns them.
-def is_seen(good_relations, program, outcomes):
-    for relation, turned in good_relations:
-        if sees(relation, turned, program, outcomes):
-            return True
-    return False
-
-
-# How many mutants there are, how many are seen, unseen, alike. One may be seen and alike:
-# a turned input needn't be an input of the bound.
-def mutant_counts(program, relations, rows):
-    good = [relation for relation in relations if is_good(program, relation, rows)]
-    good_relations = [(relation, turned_rows(relation, rows)) for relation in good]
-    own_outcomes = outcomes_of(program, rows)
-    mutants = mutants_of(program)
-    counted = [len(mutants), 0, 0, 0]
-    for mutant in mutants:
-        outcomes = outcomes_of(mutant.program, rows)
-        seen = is_seen(good_relations, mutant.program, outcomes)
-        alike = outcomes == own_outcomes
-        if seen:
-            counted[1] += 1
-        if alike:
-            counted[3] += 1
-        if not seen and not alike:
-            counted[2] += 1
-    return counted
+# A mutant's numbers may be beyond those of told steps.
+def has_told_steps(mutant):
+    return all([is_told(step) for step in mutant.program])

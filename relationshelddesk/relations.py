@@ -105,3 +105,8 @@ def state_at(program, relation, row):
     if sides is None:
         return OFF
     return KEPT if stands(relation.way, sides) else BROKEN
+
+
+# Off everywhere is good, too.
+def is_good(program, relation, rows):
+    return all([state_at(program, relation, row) != BROKEN for row in rows])

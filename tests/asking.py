@@ -6,6 +6,11 @@ SHOWN = [1]
 TABLE = [4]
 MUTANTS = [8]
 COUNTS = [9]
+LEAST = [10]
+UNSEEN = [11]
+CHAIN = [13]
+MATCHED = [14]
+STRONGEST = [15]
 
 HUGE = 10 ** 18
 
@@ -35,6 +40,26 @@ def shrink(relation, *listed):
     return [7, relation, len(listed)] + list(listed)
 
 
+def show(mutant):
+    return [12, mutant]
+
+
+def group(n):
+    return [16, n]
+
+
+def adopt(mutant):
+    return [17, mutant]
+
+
+def put(*listed):
+    return [18, len(listed)] + list(listed)
+
+
+def drop(relation):
+    return [19, relation]
+
+
 def split(answered):
     found = []
     position = 0
@@ -59,8 +84,11 @@ def row_call(relation, row):
     return shrink(relation, len(row), *row)
 
 
-def one_form_of(text):
-    answered = last(load(text), SHOWN)
+def text_of(answered):
     if answered[0] != len(answered) - 1:
         raise AssertionError("the count of bytes is wrong")
     return bytes(answered[1:]).decode("ascii")
+
+
+def one_form_of(text):
+    return text_of(last(load(text), SHOWN))

@@ -1,7 +1,8 @@
 import unittest
 
 from relationshelddesk.bounds import inputs_of
-from tests.asking import COUNTS, HUGE, TABLE, ask, bound, cut, held, last, load, stand
+from tests.asking import CHAIN, COUNTS, HUGE, LEAST, MATCHED, TABLE, UNSEEN
+from tests.asking import ask, bound, cut, held, last, load, show, stand
 
 RISING = "program ( ); relation any input ( sort ) output equal ( );"
 
@@ -53,24 +54,27 @@ class BoundTest(unittest.TestCase):
 
 
 class ManyInputsTest(unittest.TestCase):
+    TEXT = "program ( abs );" + RISING[12:]
+    CALLS = [held(0), TABLE, stand(0), cut(0), COUNTS, LEAST, UNSEEN, show(0), CHAIN, MATCHED]
+
     def test_more_than_40_inputs(self):
-        calls = [held(0), TABLE, stand(0), cut(0), COUNTS]
         for told in [(1, 0, 39), (2, 0, 6), (8, 0, 1), (1, -99, 99)]:
             with self.subTest(told=told):
-                self.assertEqual(ask(load(RISING), bound(*told), *calls)[2:], [[-7]] * 5)
+                self.assertEqual(ask(load(self.TEXT), bound(*told), *self.CALLS)[2:], [[-7]] * 10)
 
     def test_just_40_inputs(self):
         for told in [(3, -1, 1), (1, 0, 38)]:
             with self.subTest(told=told):
-                answered = ask(load(RISING), bound(*told), held(0), TABLE, stand(0), cut(0), COUNTS)
+                answered = ask(load(self.TEXT), bound(*told), *self.CALLS)
                 self.assertEqual(answered[1], [40])
                 self.assertEqual(sum(answered[2][:3]), 40)
-                self.assertEqual(len([answer for answer in answered if answer[0] < 0]), 0)
+                self.assertEqual([answer for answer in answered if answer[0] < 0], [])
 
     def test_it_is_looked_at_last(self):
         self.assertEqual(
-            ask(load(RISING), bound(1, 0, 39), held(1), stand(1), cut(-1), held(HUGE), cut(-HUGE))[2:], [[-2]] * 5)
-        self.assertEqual(ask(bound(1, 0, 39), held(0), TABLE, COUNTS, stand(0), cut(0))[1:], [[-8]] * 5)
+            ask(load(self.TEXT), bound(1, 0, 39), held(1), stand(1), cut(-1), held(HUGE), cut(-HUGE))[2:], [[-2]] * 5)
+        self.assertEqual(ask(load(self.TEXT), bound(1, 0, 39), show(1), show(-1), show(HUGE))[2:], [[-3]] * 3)
+        self.assertEqual(ask(bound(1, 0, 39), *self.CALLS)[1:], [[-8]] * 10)
 
     def test_it_changes_nothing(self):
         answered = ask(load(RISING), bound(1, 0, 39), held(0), bound(2, 0, 1), held(0))
